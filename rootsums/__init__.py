@@ -1,0 +1,1 @@
+"""Characters round n, and their sums, told exactly."""
