@@ -1,4 +1,4 @@
-"""Answers worked out from the document by hand, never taken from the program."""
+"""Answers worked out from the document, never taken from the program."""
 
 # n: the units.
 UNITS = {
@@ -34,6 +34,7 @@ ROUNDS = {
 
 # n: what each character gives the units. Where one unit's powers are all units, the rows are the multiples,
 # round e, of how often that unit is taken: 2 at n = 5, 9, 11 and 13; 3 at n = 7 and 10.
+# How often was worked out by hand, the multiples by a few lines apart from the program.
 # At n = 7, 2 is 3 taken twice, so 2 is given an even number, and two rows have each of these.
 CHARACTERS = {
     2: (
