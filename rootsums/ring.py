@@ -1,5 +1,6 @@
 """All that is fixed once n is."""
 
+from rootsums.circles import circle_of
 from rootsums.rounds import common_multiple, exponent_of, units_of
 from rootsums.table import characters_of
 
@@ -10,6 +11,7 @@ class Ring:
         self.units = units_of(n)
         self.exponent = exponent_of(n, self.units)
         self.parts = common_multiple(n, self.exponent)
+        self.polynomial = circle_of(self.parts)
         self.characters = characters_of(n, self.units, self.exponent)
 
     def lacks(self, i):
@@ -17,3 +19,6 @@ class Ring:
 
     def number_of(self, numbers):
         return self.characters.index(numbers)
+
+    def given(self, numbers, unit):
+        return numbers[self.units.index(unit)]

@@ -34,6 +34,30 @@ def from_what(i):
     return (6, i)
 
 
+def gauss(i, a):
+    return (7, i, a)
+
+
+def size(i, a):
+    return (8, i, a)
+
+
+def jacobi(i, j):
+    return (9, i, j)
+
+
+def circle(m):
+    return (10, m)
+
+
+def even(i):
+    return (11, i)
+
+
+def sums():
+    return (12,)
+
+
 def written(calls):
     return [number for call in calls for number in call]
 

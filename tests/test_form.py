@@ -43,6 +43,19 @@ def bound_names(tree):
             yield node.name
 
 
+def methods_and_values():
+    """The methods of the package's classes, and the values that its objects are given."""
+    methods = set()
+    values = set()
+    for path, tree in trees():
+        for node in ast.walk(tree):
+            if isinstance(node, ast.ClassDef):
+                methods |= {inner.name for inner in node.body if isinstance(inner, ast.FunctionDef)}
+            if isinstance(node, ast.Attribute) and isinstance(node.ctx, ast.Store):
+                values.add(node.attr)
+    return methods - {"__init__"}, values
+
+
 class FormTest(unittest.TestCase):
     def test_files(self):
         self.assertIn(PACKAGE / "__init__.py", files())
@@ -107,6 +120,12 @@ class FormTest(unittest.TestCase):
             for node in ast.walk(tree):
                 if isinstance(node, ast.Call) and isinstance(node.func, ast.Attribute):
                     self.assertIn(node.func.attr, METHODS | own, path)
+
+    def test_methods_and_values_bear_free_names(self):
+        methods, values = methods_and_values()
+        self.assertEqual(methods & values, set())
+        for kind in (str, int, list, dict, set, bytes):
+            self.assertEqual((methods | values) & set(dir(kind)), set())
 
 
 if __name__ == "__main__":
